@@ -1,0 +1,1 @@
+"""Squares bitten off a bar, the one at the corner bitter."""
