@@ -121,7 +121,7 @@ class WhatHoldsOfAll(unittest.TestCase):
 
     def test_the_package_imports_prints_and_reads_nothing(self):
         files = sorted(PACKAGE.glob("*.py"))
-        self.assertEqual([file.name for file in files], ["__init__.py", "bar.py"])
+        self.assertIn("bar.py", [file.name for file in files])
         for file in files:
             for node in ast.walk(ast.parse(file.read_text(encoding="ascii"))):
                 with self.subTest(file=file.name, row=getattr(node, "lineno", 0)):
