@@ -6,6 +6,12 @@ BITE = 2
 BACK = 3
 SHOWS = 4
 WON = 5
+GOOD = 6
+LONG = 7
+PLAY = 8
+UNDER = 9
+LOST = 10
+TURNED = 11
 
 MOST_ROWS = 5
 MOST_SQUARES = 6
@@ -46,6 +52,15 @@ def left_by_bite(shape, row, square):
     return untouched + tuple([min(squares, square - 1) for squares in shape[row - 1:]])
 
 
+def bites_at(shape):
+    """All bites at the shape, row and square of each, by rows, then by squares."""
+    bites = []
+    for row in range(1, len(shape) + 1):
+        for square in range(1, shape[row - 1] + 1):
+            bites.append((row, square))
+    return bites
+
+
 def with_one_more_row(shapes, longest):
     """Each of these shapes with each row put behind it that fits there and isn't above longest."""
     grown = []
@@ -70,29 +85,51 @@ def shapes_within(shape):
     return found
 
 
+def rows_and_squares_exchanged(shape):
+    """The rows of the shape in which each square's row and its number in that row have changed places."""
+    rows = []
+    for square in range(1, shape[0] + 1):
+        rows.append(len([squares for squares in shape if squares >= square]))
+    return rows
+
+
 class Judge:
-    """Tells lost shapes from won ones, and keeps what it has found out."""
+    """Tells how long shapes are and which are lost, and keeps what it has found out."""
 
     def __init__(self):
-        self.verdicts = {}
+        # The empty shape has no bite left.
+        self.lengths = {(): 0}
 
-    def is_lost(self, shape):
-        """Whether a shape that isn't empty is lost for the one at turn."""
-        if shape not in self.verdicts:
+    def length(self, shape):
+        """How many bites there are yet, the bitter one among them."""
+        if shape not in self.lengths:
             # From the small to the large, so that nothing is nested.
             for smaller in shapes_within(shape):
-                if smaller not in self.verdicts:
-                    self.verdicts[smaller] = not self.has_good_bite(smaller)
-        return self.verdicts[shape]
+                if smaller not in self.lengths:
+                    self.lengths[smaller] = 1 + self.length_behind(smaller, self.best_bite(smaller))
+        return self.lengths[shape]
 
-    def has_good_bite(self, shape):
-        """Whether some bite leaves a lost shape; of all that bites leave the verdicts must be there."""
-        for row in range(1, len(shape) + 1):
-            for square in range(1, shape[row - 1] + 1):
-                # Only the bitter bite leaves the empty shape; it has no verdict and is never good.
-                if self.verdicts.get(left_by_bite(shape, row, square), False):
-                    return True
-        return False
+    def length_behind(self, shape, bite):
+        """How many bites there are yet when this one is made."""
+        return self.length(left_by_bite(shape, bite[0], bite[1]))
+
+    def is_lost(self, shape):
+        """Whether the shape is lost for the one at turn."""
+        # Who takes the last bite has lost, and with an odd number that's the one at turn. So the empty shape
+        # isn't lost, and the bitter bite is never good.
+        return self.length(shape) % 2 == 1
+
+    def good_bites(self, shape):
+        """The bites that leave a lost shape, by rows, then by squares."""
+        return [bite for bite in bites_at(shape) if self.is_lost(left_by_bite(shape, bite[0], bite[1]))]
+
+    def best_bite(self, shape):
+        """The first good bite by which it's over soonest; where there's none, the first by which it's over latest."""
+        good = self.good_bites(shape)
+        # Of several that are even, min and max give the first.
+        if good:
+            return min(good, key=lambda bite: self.length_behind(shape, bite))
+        return max(bites_at(shape), key=lambda bite: self.length_behind(shape, bite))
 
 
 class Bar:
@@ -147,6 +184,59 @@ class Bar:
             return [NOTHING_LEFT]
         return [0 if self.judge.is_lost(self.shape) else 1]
 
+    def good(self):
+        """The call good."""
+        if not self.shape:
+            return [NOTHING_LEFT]
+        bites = self.judge.good_bites(self.shape)
+        answer = [len(bites)]
+        for bite in bites:
+            answer.extend(bite)
+        return answer
+
+    def long(self):
+        """The call long."""
+        if not self.shape:
+            return [NOTHING_LEFT]
+        return [self.judge.length(self.shape)]
+
+    def play(self):
+        """The call play."""
+        if not self.shape:
+            return [NOTHING_LEFT]
+        best = self.judge.best_bite(self.shape)
+        self.bite(best[0], best[1])
+        return list(best)
+
+    def under(self):
+        """The call under."""
+        if not self.shape:
+            return [NOTHING_LEFT]
+        # Square by square, from the outside, whatever lies within can come.
+        shapes = shapes_within(self.shape)
+        return [len(shapes), len(self.lost_among(shapes))]
+
+    def lost(self, count):
+        """The call lost."""
+        if not 1 <= count <= MOST_ROWS * MOST_SQUARES:
+            return [WRONG_SIZE]
+        shapes = shapes_within((MOST_SQUARES,) * MOST_ROWS)
+        found = self.lost_among([shape for shape in shapes if sum(shape) == count])
+        # Tuples are compared as the order asks: by row 1, then row 2, and so on.
+        last = max(found, default=())
+        return [len(found), len(last)] + list(last)
+
+    def turned(self):
+        """The call turned."""
+        if not self.shape:
+            return [NOTHING_LEFT]
+        rows = rows_and_squares_exchanged(self.shape)
+        return [len(rows)] + rows
+
+    def lost_among(self, shapes):
+        """Those of the shapes that are lost."""
+        return [shape for shape in shapes if self.judge.is_lost(shape)]
+
 
 class Line:
     """A line's calls, read number by number."""
@@ -190,6 +280,18 @@ def answer_call(bar, line):
         return bar.shows()
     if number == WON:
         return bar.won()
+    if number == GOOD:
+        return bar.good()
+    if number == LONG:
+        return bar.long()
+    if number == PLAY:
+        return bar.play()
+    if number == UNDER:
+        return bar.under()
+    if number == LOST:
+        return bar.lost(line.take())
+    if number == TURNED:
+        return bar.turned()
     raise UnknownCall(f"no call has the number {number}")
 
 

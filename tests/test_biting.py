@@ -4,11 +4,7 @@ import unittest
 
 from bittenbar.bar import answers
 from plainbar import (BACK_CALL, LARGEST, SHOWS_CALL, WON_CALL, after_bite, all_shapes, bar, bite, line, rows_of,
-                      shape, split_answers, squares_of)
-
-
-def told(*calls):
-    return split_answers(answers(line(*calls)))
+                      shape, squares_of, told)
 
 
 class Bites(unittest.TestCase):

@@ -3,11 +3,7 @@
 import unittest
 
 from bittenbar.bar import answers
-from plainbar import (BACK_CALL, LARGEST, SHOWS_CALL, all_shapes, bar, bite, line, shape, split_answers)
-
-
-def told(*calls):
-    return split_answers(answers(line(*calls)))
+from plainbar import BACK_CALL, LARGEST, SHOWS_CALL, all_shapes, bar, bite, shape, told
 
 
 class WholeBars(unittest.TestCase):

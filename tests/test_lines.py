@@ -10,9 +10,12 @@ import unittest
 
 import bittenbar
 from bittenbar.bar import answers
-from plainbar import (BACK_CALL, LARGEST, SHOWS_CALL, WON_CALL, PlainBar, bar, bite, line, shape, split_answers)
+from plainbar import (BACK_CALL, GOOD_CALL, LARGEST, LONG_CALL, PLAY_CALL, SHOWS_CALL, TURNED_CALL, UNDER_CALL,
+                      WON_CALL, PlainBar, bar, bite, line, lost, shape, told)
 
 PACKAGE = pathlib.Path(bittenbar.__file__).parent
+ALONE = {"shows": SHOWS_CALL, "won": WON_CALL, "good": GOOD_CALL, "long": LONG_CALL, "play": PLAY_CALL,
+         "under": UNDER_CALL, "turned": TURNED_CALL}
 
 
 class UnchangedList(list):
@@ -28,7 +31,7 @@ class UnchangedList(list):
 def drawn_call(draw):
     """A call as a game has it: mostly allowed, now and then at an edge or beyond it."""
     edge = [0, 1, 5, 6, 7, LARGEST]
-    kind = draw.choice(["bar", "shape", "any shape", "bite", "bite", "bite", "back", "shows", "won", "won"])
+    kind = draw.choice(["bar", "shape", "any shape", "bite", "bite", "back", "back", "lost", *ALONE])
     if kind == "bar":
         return bar(draw.choice([2, 3, 4, 5, *edge]), draw.choice([2, 3, 4, 5, 6, *edge]))
     if kind == "shape":
@@ -37,7 +40,9 @@ def drawn_call(draw):
         return shape(*[draw.choice([1, 2, 3, *edge]) for row in range(draw.choice([0, 1, 2, 3, 5, 6, 40]))])
     if kind == "bite":
         return bite(draw.choice([1, 2, 3, 4, draw.choice(edge)]), draw.choice([1, 2, 3, 4, 5, draw.choice(edge)]))
-    return {"back": BACK_CALL, "shows": SHOWS_CALL, "won": WON_CALL}[kind]
+    if kind == "lost":
+        return lost(draw.choice([draw.randint(1, 30), 30, 31, draw.choice(edge)]))
+    return BACK_CALL if kind == "back" else ALONE[kind]
 
 
 def drawn_line(draw, length):
@@ -51,12 +56,22 @@ class ListGivenBack(unittest.TestCase):
             answers([0, 2, 3, 4, 2, 2, 2, 4, 3, 3, 1, 2, 3, 2, 5, 4, 0, 6, 1, 2, 1, 1, 5]),
             [1, 6, 4, 2, 3, 3, 0, 1, 2, 4, 2, 3, 1, 1, 1, 6, 1, -9, 1, 5, 1, 0, 4, 2, 3, 2, 0, 1, -1, 1, 5, 1, -6])
 
-    def test_the_example_of_the_readme(self):
+    def test_the_numbers_of_all_calls(self):
+        self.assertEqual(
+            answers([0, 2, 2, 5, 6, 7, 8, 4, 9, 10, 3, 11, 3, 1, 2, 3, 1, 11, 2, 1, 1, 11, 10, 31]),
+            [1, 4, 1, 1, 3, 1, 2, 2, 1, 4, 2, 2, 2, 4, 2, 2, 1, 1, 2, 4, 2, 4, 1, 2, 2, 1, 3, 2, 2, 1, 1, 4,
+             1, 4, 4, 3, 2, 1, 1, 1, 4, 1, -6, 1, -1])
+
+    def test_the_examples_of_the_readme(self):
         self.assertEqual(answers([0, 2, 3, 5, 2, 2, 3, 4]), [1, 6, 1, 1, 1, 1, 4, 2, 3, 2, 1])
+        self.assertEqual(answers([1, 3, 4, 3, 1, 6, 7, 8, 4]),
+                         [1, 8, 5, 2, 1, 3, 3, 1, 1, 6, 2, 1, 3, 5, 3, 2, 2, 1, 1])
 
     def test_lines_of_one_call(self):
         for call, answer in [(bar(3, 4), [1, 12]), (shape(3, 2, 2), [1, 7]), (bite(1, 1), [1, 1]),
-                             (BACK_CALL, [1, -9]), (SHOWS_CALL, [3, 1, 1, 0]), (WON_CALL, [1, 0])]:
+                             (BACK_CALL, [1, -9]), (SHOWS_CALL, [3, 1, 1, 0]), (WON_CALL, [1, 0]),
+                             (GOOD_CALL, [1, 0]), (LONG_CALL, [1, 1]), (PLAY_CALL, [2, 1, 1]),
+                             (UNDER_CALL, [2, 1, 1]), (lost(5), [4, 3, 2, 3, 2]), (TURNED_CALL, [2, 1, 1])]:
             with self.subTest(call=call):
                 self.assertEqual(answers(call), answer)
 
@@ -65,19 +80,32 @@ class ListGivenBack(unittest.TestCase):
         self.assertEqual(answers(line(*[shape(*[1] * 40)] * 40)), [1, -1] * 40)
         self.assertEqual(answers(line(*[bite(1, 1), BACK_CALL] * 20)), [1, 1, 1, 1] * 20)
         self.assertEqual(answers(line(*[bar(5, 6), WON_CALL] * 20)), [1, 30, 1, 1] * 20)
+        self.assertEqual(answers(line(*[bar(5, 6), UNDER_CALL] * 20)), [1, 30, 2, 461, 35] * 20)
+        self.assertEqual(answers(line(*[lost(25), lost(LARGEST)] * 20)), [7, 1, 5, 6, 6, 6, 5, 2, 1, -1] * 20)
 
     def test_a_list_of_whole_numbers(self):
-        given = answers(line(bar(5, 6), WON_CALL, bite(3, 3), SHOWS_CALL, WON_CALL, BACK_CALL, BACK_CALL, bite(0, 0)))
+        given = answers(line(bar(5, 6), WON_CALL, bite(3, 3), SHOWS_CALL, WON_CALL, BACK_CALL, BACK_CALL, bite(0, 0),
+                             *ALONE.values(), lost(8), lost(30), lost(0)))
         self.assertIs(type(given), list)
         self.assertEqual({type(number) for number in given}, {int})
 
     def test_drawn_lines_against_the_plain_bar(self):
         draw = random.Random(20)
-        for length in [1, 2, 5, 40] * 60:
+        for length in [1, 2, 5, 40, 40, 40] * 60:
             calls = drawn_line(draw, length)
             plain = PlainBar()
             with self.subTest(calls=calls):
-                self.assertEqual(split_answers(answers(line(*calls))), [plain.answer(call) for call in calls])
+                self.assertEqual(told(*calls), [plain.answer(call) for call in calls])
+
+    def test_the_drawn_lines_have_all_calls_and_all_refusals(self):
+        draw = random.Random(20)
+        met = set()
+        for times in range(180):
+            plain = PlainBar()
+            for call in drawn_line(draw, 40):
+                met.add((call[0], min(plain.answer(call)[0], 0)))
+        self.assertEqual(met, {(kind, 0) for kind in range(12)} | {(0, -1), (1, -1), (2, -6), (2, -2), (3, -9),
+                         (5, -6), (6, -6), (7, -6), (8, -6), (9, -6), (10, -1), (11, -6)})
 
 
 class WhatHoldsOfAll(unittest.TestCase):
@@ -138,10 +166,14 @@ class WhatHoldsOfAll(unittest.TestCase):
         limit = sys.getrecursionlimit()
         sys.setrecursionlimit(depth + 30)
         try:
-            given = answers(line(bar(5, 6), WON_CALL, *[bite(1, 1), BACK_CALL] * 19))
+            bitten = answers(line(bar(5, 6), WON_CALL, *[bite(1, 1), BACK_CALL] * 19))
+            each = [answers(line(bar(5, 6), call)) for call in [*ALONE.values(), lost(25)]]
         finally:
             sys.setrecursionlimit(limit)
-        self.assertEqual(given, [1, 30, 1, 1] + [1, 30, 1, 30] * 19)
+        self.assertEqual(bitten, [1, 30, 1, 1] + [1, 30, 1, 30] * 19)
+        self.assertEqual([given[2:] for given in each],
+                         [[7, 5, 6, 6, 6, 6, 6, 0], [1, 1], [3, 1, 3, 4], [1, 16], [2, 3, 4], [2, 461, 35],
+                          [7, 6, 5, 5, 5, 5, 5, 5], [7, 1, 5, 6, 6, 6, 5, 2]])
 
 
 if __name__ == "__main__":

@@ -4,11 +4,7 @@ import unittest
 
 from bittenbar.bar import answers
 from plainbar import (BACK_CALL, LARGEST, SHOWS_CALL, WON_CALL, all_shapes, bar, bite, is_won, line, shape,
-                      split_answers, squares_of)
-
-
-def told(*calls):
-    return split_answers(answers(line(*calls)))
+                      squares_of, told)
 
 
 def won(*rows):
