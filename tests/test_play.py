@@ -4,7 +4,7 @@ import unittest
 
 from bittenbar.bar import answers
 from plainbar import (BACK_CALL, GOOD_CALL, LONG_CALL, PLAY_CALL, SHOWS_CALL, WON_CALL, after_bite, all_shapes, bar,
-                      bite, how_long, is_won, line, played_bite, rows_of, shape, squares_of, told)
+                      bite, how_long, is_won, line, played_bite, rows_of, shape, squares_of, told, told_in_long_lines)
 
 
 def play(*rows):
@@ -22,13 +22,9 @@ class Play(unittest.TestCase):
                     [[sum(rows)], list(square), [len(left), *left, 1], [sum(rows)], [len(rows), *rows, 0], [-9]])
 
     def test_all_shapes_twenty_in_a_line(self):
-        # Both ways round: what was found out of one shape must not mislead on the next.
-        for shapes in [all_shapes(), all_shapes()[::-1]]:
-            for start in range(0, len(shapes), 20):
-                some = shapes[start:start + 20]
-                calls = [call for rows in some for call in (shape(*rows), PLAY_CALL)]
-                with self.subTest(some=some):
-                    self.assertEqual(told(*calls)[1::2], [list(played_bite(squares_of(rows))) for rows in some])
+        for rows, answer in told_in_long_lines(PLAY_CALL):
+            with self.subTest(rows=rows):
+                self.assertEqual(answer, list(played_bite(squares_of(rows))))
 
     def test_the_first_of_several_good_bites(self):
         # Behind each good bite there are as many bites yet.

@@ -4,7 +4,7 @@ import unittest
 
 from bittenbar.bar import answers
 from plainbar import (BACK_CALL, SHOWS_CALL, UNDER_CALL, all_shapes, bar, bite, is_won, line, shape, shapes_under,
-                      squares_of, told)
+                      squares_of, told, told_in_long_lines)
 
 
 def under(*rows):
@@ -23,13 +23,9 @@ class Under(unittest.TestCase):
                 self.assertEqual(under(*rows), expected(rows))
 
     def test_all_shapes_twenty_in_a_line(self):
-        # Both ways round: what was found out of one shape must not mislead on the next.
-        for shapes in [all_shapes(), all_shapes()[::-1]]:
-            for start in range(0, len(shapes), 20):
-                some = shapes[start:start + 20]
-                calls = [call for rows in some for call in (shape(*rows), UNDER_CALL)]
-                with self.subTest(some=some):
-                    self.assertEqual(told(*calls)[1::2], [expected(rows) for rows in some])
+        for rows, answer in told_in_long_lines(UNDER_CALL):
+            with self.subTest(rows=rows):
+                self.assertEqual(answer, expected(rows))
 
     def test_of_a_single_square_itself_alone(self):
         self.assertEqual(answers(UNDER_CALL), [2, 1, 1])

@@ -4,7 +4,7 @@ import unittest
 
 from bittenbar.bar import answers
 from plainbar import (BACK_CALL, LARGEST, SHOWS_CALL, WON_CALL, all_shapes, bar, bite, is_won, line, shape,
-                      squares_of, told)
+                      squares_of, told, told_in_long_lines)
 
 
 def won(*rows):
@@ -20,13 +20,9 @@ class Won(unittest.TestCase):
                 self.assertEqual(won(*rows), [int(is_won(squares_of(rows)))])
 
     def test_all_shapes_twenty_in_a_line(self):
-        # Both ways round: what was found out of one shape must not mislead on the next.
-        for shapes in [all_shapes(), all_shapes()[::-1]]:
-            for start in range(0, len(shapes), 20):
-                some = shapes[start:start + 20]
-                calls = [call for rows in some for call in (shape(*rows), WON_CALL)]
-                with self.subTest(some=some):
-                    self.assertEqual(told(*calls)[1::2], [[int(is_won(squares_of(rows)))] for rows in some])
+        for rows, answer in told_in_long_lines(WON_CALL):
+            with self.subTest(rows=rows):
+                self.assertEqual(answer, [int(is_won(squares_of(rows)))])
 
     def test_a_single_square_is_lost(self):
         self.assertEqual(answers(WON_CALL), [1, 0])
